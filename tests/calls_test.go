@@ -12,6 +12,11 @@ import (
 
 var fields = []int64{3, 5, 7, 11, 13, 17, 19, 23, 29, 31}
 
+// colour is an int64 argument that is a colour and no number modulo p.
+type colour int64
+
+var colours = []int64{0, 1, 2}
+
 // sample is a function with arguments behind the prime that are in range for every prime.
 type sample struct {
 	name string
@@ -47,6 +52,9 @@ func notFields() []int64 {
 func call(fn any, p int64, args []any) (results []reflect.Value, code int64) {
 	in := []reflect.Value{reflect.ValueOf(p)}
 	for _, a := range args {
+		if c, ok := a.(colour); ok {
+			a = int64(c)
+		}
 		in = append(in, reflect.ValueOf(a))
 	}
 	out := reflect.ValueOf(fn).Call(in)
@@ -83,6 +91,10 @@ func outOfRange(p int64, a any) []any {
 	case int64:
 		for _, n := range badNumbers(p) {
 			bad = append(bad, n)
+		}
+	case colour:
+		for _, c := range []colour{-1, -2, -3, 3, 4, 5, 31, 256, 257, 1 << 32, 1<<32 + 2, math.MinInt64, math.MinInt64 + 1, math.MaxInt64} {
+			bad = append(bad, c)
 		}
 	case impl.Point:
 		for _, n := range badNumbers(p) {
