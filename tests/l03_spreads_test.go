@@ -221,6 +221,11 @@ func coloured(check func(p, colour int64, a, b, c impl.Point)) {
 			check(p, colour, a, b, c)
 		}
 	})
+	onNullLines(check)
+}
+
+// onNullLines calls check with triples two points of which are on a null line.
+func onNullLines(check func(p, colour int64, a, b, c impl.Point)) {
 	inColours(func(p, colour int64) {
 		for _, l := range nullAmong(p, colour, twoOfEachSlope(p)) {
 			row := pointsOfLine(p, l)
@@ -252,10 +257,14 @@ func TestSpreadAt(t *testing.T) {
 	})
 }
 
+func areaIn(p int64, a, b, c impl.Point) int64 {
+	d, e := minus(p, b, a), minus(p, c, a)
+	return mod(p, d[0]*e[1]-d[1]*e[0])
+}
+
 // triangleSpreads says anew what the spreads of a triangle are, and ErrState where there are none.
 func triangleSpreads(p, colour int64, a, b, c impl.Point) ([]int64, int64) {
-	d, e := minus(p, b, a), minus(p, c, a)
-	if mod(p, d[0]*e[1]-d[1]*e[0]) == 0 {
+	if areaIn(p, a, b, c) == 0 {
 		return nil, impl.ErrState
 	}
 	atA, code1 := spreadAtIn(p, colour, a, b, c)
