@@ -17,6 +17,9 @@ type colour int64
 
 var colours = []int64{0, 1, 2}
 
+// count is an int64 argument that has the same bounds for every prime.
+type count struct{ n, least, greatest int64 }
+
 // sample is a function with arguments behind the prime that are in range for every prime.
 type sample struct {
 	name string
@@ -52,8 +55,11 @@ func notFields() []int64 {
 func call(fn any, p int64, args []any) (results []reflect.Value, code int64) {
 	in := []reflect.Value{reflect.ValueOf(p)}
 	for _, a := range args {
-		if c, ok := a.(colour); ok {
-			a = int64(c)
+		switch v := a.(type) {
+		case colour:
+			a = int64(v)
+		case count:
+			a = v.n
 		}
 		in = append(in, reflect.ValueOf(a))
 	}
@@ -87,7 +93,7 @@ func badNumbers(p int64) []int64 {
 // outOfRange returns values of the type of a that are not in range for p.
 func outOfRange(p int64, a any) []any {
 	var bad []any
-	switch a.(type) {
+	switch v := a.(type) {
 	case int64:
 		for _, n := range badNumbers(p) {
 			bad = append(bad, n)
@@ -95,6 +101,10 @@ func outOfRange(p int64, a any) []any {
 	case colour:
 		for _, c := range []colour{-1, -2, -3, 3, 4, 5, 31, 256, 257, 1 << 32, 1<<32 + 2, math.MinInt64, math.MinInt64 + 1, math.MaxInt64} {
 			bad = append(bad, c)
+		}
+	case count:
+		for _, n := range []int64{v.least - 1, v.least - 2, -v.greatest, v.greatest + 1, 2 * v.greatest, v.n + 1<<32, v.n + math.MinInt64, math.MaxInt64} {
+			bad = append(bad, count{n, v.least, v.greatest})
 		}
 	case impl.Point:
 		for _, n := range badNumbers(p) {
