@@ -98,7 +98,7 @@ func IsOnLine(p int64, a Point, l Line) (bool, int64) {
 	if code := codeFor(p, arePoints(p, a) && areLines(p, l)); code != ErrNone {
 		return false, code
 	}
-	return rest(p, l[0]*a[0]+l[1]*a[1]+l[2]) == 0, ErrNone
+	return isOnLine(p, a, l), ErrNone
 }
 
 // MeetOf returns the point in which two lines meet, and ErrNone. Errors: ErrState if they are
@@ -321,6 +321,10 @@ func lineMadeBy(p int64, a int64, b int64, c int64) Line {
 func lineThrough(p int64, a Point, b Point) Line {
 	d := difference(p, b, a)
 	return lineMadeBy(p, d[1], rest(p, -d[0]), rest(p, d[0]*a[1]-d[1]*a[0]))
+}
+
+func isOnLine(p int64, a Point, l Line) bool {
+	return rest(p, l[0]*a[0]+l[1]*a[1]+l[2]) == 0
 }
 
 // slopeOf returns what parallel lines share: as the first of a, b that is not 0 is always 1,

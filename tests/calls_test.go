@@ -117,6 +117,11 @@ func outOfRange(p int64, a any) []any {
 		}
 		bad = append(bad, impl.Line{}, impl.Line{0, 0, 1}, impl.Line{0, 0, p - 1},
 			impl.Line{2, 0, 0}, impl.Line{2, 1, 0}, impl.Line{0, 2, 1}, impl.Line{p - 1, 0, 1})
+	case impl.Circle:
+		for _, n := range badNumbers(p) {
+			bad = append(bad, impl.Circle{Centre: impl.Point{n, 0}, Quadrance: 1}, impl.Circle{Centre: impl.Point{1, n}, Quadrance: 0},
+				impl.Circle{Centre: impl.Point{1, 2}, Quadrance: n}, impl.Circle{Centre: impl.Point{n, n}, Quadrance: n})
+		}
 	case string:
 	default:
 		panic(fmt.Sprintf("no values out of range for %T", a))
