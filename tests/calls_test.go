@@ -122,6 +122,11 @@ func outOfRange(p int64, a any) []any {
 			bad = append(bad, impl.Circle{Centre: impl.Point{n, 0}, Quadrance: 1}, impl.Circle{Centre: impl.Point{1, n}, Quadrance: 0},
 				impl.Circle{Centre: impl.Point{1, 2}, Quadrance: n}, impl.Circle{Centre: impl.Point{n, n}, Quadrance: n})
 		}
+	case impl.Move:
+		for _, n := range badNumbers(p) {
+			bad = append(bad, mapOf(n, 0, 0, 1, 0, 0), mapOf(1, n, 0, 1, 0, 0), mapOf(1, 0, n, 1, 0, 0), mapOf(1, 0, 0, n, 0, 0),
+				mapOf(1, 0, 0, 1, n, 0), mapOf(1, 0, 0, 1, 0, n), mapOf(n, n, n, n, n, n))
+		}
 	case string:
 	default:
 		panic(fmt.Sprintf("no values out of range for %T", a))
