@@ -533,7 +533,7 @@ func checkTurns(t *testing.T, p, colour int64, a impl.Point, centred []impl.Move
 func TestTurnsAbout(t *testing.T) {
 	inColours(func(p, colour int64) {
 		centred := centredMoves(p, colour)
-		for _, a := range thinned(everyPoint(p), 60) {
+		for _, a := range everyPoint(p) {
 			checkTurns(t, p, colour, a, centred)
 		}
 	})
