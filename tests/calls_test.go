@@ -127,11 +127,56 @@ func outOfRange(p int64, a any) []any {
 			bad = append(bad, mapOf(n, 0, 0, 1, 0, 0), mapOf(1, n, 0, 1, 0, 0), mapOf(1, 0, n, 1, 0, 0), mapOf(1, 0, 0, n, 0, 0),
 				mapOf(1, 0, 0, 1, n, 0), mapOf(1, 0, 0, 1, 0, n), mapOf(n, n, n, n, n, n))
 		}
+	case impl.Conic:
+		for _, n := range badNumbers(p) {
+			for i := range v {
+				changed := v
+				changed[i] = n
+				bad = append(bad, changed)
+			}
+		}
+		bad = append(bad, impl.Conic{}, impl.Conic{0, 0, 0, 1, 2, 1}, impl.Conic{2, 0, 0, 0, 0, 0}, impl.Conic{2, 1, 1, 0, 1, 0},
+			impl.Conic{0, 2, 0, 1, 0, 1}, impl.Conic{0, 2, 1, 0, 0, 0}, impl.Conic{0, 0, 2, 1, 1, 1}, impl.Conic{p - 1, 0, 1, 0, 0, 1})
+	case []int64:
+		for _, n := range badNumbers(p) {
+			bad = append(bad, []int64{n}, []int64{0, 0, 0, n, 0, 0}, []int64{0, 0, 0, 0, 0, n})
+			for i := range v {
+				bad = append(bad, changedAt(v, i, n))
+			}
+		}
+		for _, list := range otherLengths(v) {
+			bad = append(bad, list)
+		}
+	case []impl.Point:
+		for _, n := range badNumbers(p) {
+			bad = append(bad, []impl.Point{{n, n}})
+			for i, a := range v {
+				bad = append(bad, changedAt(v, i, impl.Point{n, a[1]}), changedAt(v, i, impl.Point{a[0], n}))
+			}
+		}
+		for _, list := range otherLengths(v) {
+			bad = append(bad, list)
+		}
 	case string:
 	default:
 		panic(fmt.Sprintf("no values out of range for %T", a))
 	}
 	return bad
+}
+
+func changedAt[T any](list []T, i int, value T) []T {
+	changed := slices.Clone(list)
+	changed[i] = value
+	return changed
+}
+
+// otherLengths returns lists of the elements of a list that are shorter and longer than it.
+func otherLengths[T any](list []T) [][]T {
+	others := [][]T{nil, append(slices.Clone(list), list[0]), slices.Concat(list, list), slices.Repeat(list, 1000)}
+	for i := range list {
+		others = append(others, list[:i])
+	}
+	return others
 }
 
 // spoilt returns the arguments with each one of them out of range in turn, and with all equal ones
@@ -143,7 +188,7 @@ func spoilt(p int64, args []any) [][]any {
 			one, all := slices.Clone(args), slices.Clone(args)
 			one[i] = bad
 			for j := range all {
-				if all[j] == a {
+				if reflect.DeepEqual(all[j], a) {
 					all[j] = bad
 				}
 			}
