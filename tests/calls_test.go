@@ -130,13 +130,20 @@ func outOfRange(p int64, a any) []any {
 	case impl.Conic:
 		for _, n := range badNumbers(p) {
 			for i := range v {
-				changed := v
-				changed[i] = n
-				bad = append(bad, changed)
+				bad = append(bad, impl.Conic(changedAt(v[:], i, n)))
 			}
 		}
 		bad = append(bad, impl.Conic{}, impl.Conic{0, 0, 0, 1, 2, 1}, impl.Conic{2, 0, 0, 0, 0, 0}, impl.Conic{2, 1, 1, 0, 1, 0},
 			impl.Conic{0, 2, 0, 1, 0, 1}, impl.Conic{0, 2, 1, 0, 0, 0}, impl.Conic{0, 0, 2, 1, 1, 1}, impl.Conic{p - 1, 0, 1, 0, 0, 1})
+	case impl.Place:
+		for _, n := range badNumbers(p) {
+			for i := range v {
+				bad = append(bad, impl.Place(changedAt(v[:], i, n)))
+			}
+			bad = append(bad, impl.Place{n, 1, 2}, impl.Place{0, n, 1}, impl.Place{0, 0, n}, impl.Place{n, n, n})
+		}
+		bad = append(bad, impl.Place{}, impl.Place{2, 0, 0}, impl.Place{2, 1, 1}, impl.Place{0, 2, 0}, impl.Place{0, 2, 1},
+			impl.Place{0, 0, 2}, impl.Place{p - 1, 0, 1}, impl.Place{p - 1, 1, 0}, impl.Place{0, p - 1, 1}, impl.Place{0, 0, p - 1})
 	case []int64:
 		for _, n := range badNumbers(p) {
 			bad = append(bad, []int64{n}, []int64{0, 0, 0, n, 0, 0}, []int64{0, 0, 0, 0, 0, n})
