@@ -246,11 +246,7 @@ func TestNullPlaces(t *testing.T) {
 
 func TestPlacesOnLines(t *testing.T) {
 	for _, p := range fields {
-		places := everyPlace(p)
-		if p > 13 {
-			places = somePlaces(p, 150)
-		}
-		for _, pole := range places {
+		for _, pole := range everyPlace(p) {
 			list, code := impl.PlacesOn(p, pole)
 			if want := lineIn(p, pole); !slices.Equal(list, want) || len(list) != int(p+1) || code != impl.ErrNone {
 				t.Errorf("PlacesOn(%d, %v) = %v, %d, want %v", p, pole, list, code, want)
@@ -446,7 +442,7 @@ func spreadOfPlacesIn(p int64, a, b, c impl.Place) (int64, int64) {
 
 func TestSpreadsOfJoins(t *testing.T) {
 	seen := map[[2]int64]int{}
-	inThreePlaces(27, func(p int64, a, b, c impl.Place) {
+	inThreePlaces(31, func(p int64, a, b, c impl.Place) {
 		want, wantCode := spreadOfPlacesIn(p, a, b, c)
 		s, code := impl.SpreadOfJoins(p, a, b, c)
 		if s != want || code != wantCode {
@@ -536,7 +532,7 @@ func checkThreeQuadrances(t *testing.T, p int64, a, b, c impl.Place) bool {
 
 func TestQuadrancesOfThreePlaces(t *testing.T) {
 	seen := map[int64][2]int{}
-	inThreePlaces(27, func(p int64, a, b, c impl.Place) {
+	inThreePlaces(31, func(p int64, a, b, c impl.Place) {
 		counts := seen[p]
 		if checkThreeQuadrances(t, p, a, b, c) {
 			counts[0]++
@@ -554,7 +550,7 @@ func TestQuadrancesOfThreePlaces(t *testing.T) {
 
 func TestPlacesInLineHaveTripleSpreads(t *testing.T) {
 	seen := map[[2]int64]int{}
-	inThreePlaces(27, func(p int64, a, b, c impl.Place) {
+	inThreePlaces(31, func(p int64, a, b, c impl.Place) {
 		if inLine, code := impl.AreInLine(p, a, b, c); !inLine || code != impl.ErrNone || isNullIn(p, a) || isNullIn(p, b) || isNullIn(p, c) {
 			return
 		}
@@ -683,7 +679,7 @@ func checkCountByQuadrance(t *testing.T, p int64, a impl.Place) {
 }
 
 func TestCountsByQuadrance(t *testing.T) {
-	inPlaces(60, func(p int64, a impl.Place) {
+	inPlaces(200, func(p int64, a impl.Place) {
 		if isNullIn(p, a) {
 			return
 		}
